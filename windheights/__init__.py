@@ -1,0 +1,1 @@
+"""Winds by heights: where a balloon lands that rises and sinks into winds told hour by hour."""
