@@ -4,7 +4,7 @@ import contextlib
 import io
 import unittest
 
-from tests.lines import LARGEST, begins, check, hour
+from tests.lines import LARGEST, begins, check, hour, nearest, reach, soonest
 from windheights.balloon import answers
 
 LINE = (
@@ -16,9 +16,15 @@ LINE = (
     + check(2, 2)
     + check(1, 1, 1)
     + check()
+    + nearest(2)
+    + soonest()
+    + reach(2)
+    + nearest(3)
+    + reach(3)
     + begins(5)
     + begins()
     + check(1)
+    + soonest()
 )
 
 ANSWERS = (
@@ -30,9 +36,15 @@ ANSWERS = (
     + [3, -6, 1, 1]
     + [1, -1]
     + [6, 13, 0, 0, 0, 1, 1]
+    + [5, 1, 1, 1, 1, 1]
+    + [1, -6]
+    + [5, 2, -3, 3, -2, 2]
+    + [1, -1]
+    + [1, -1]
     + [1, -1]
     + [1, 0]
     + [1, -1]
+    + [3, 0, 0, 1]
 )
 
 
@@ -41,9 +53,26 @@ class Answers(unittest.TestCase):
         self.assertEqual(answers([0, 1, 0, 0, 100, 100]), [1, 0])
         self.assertEqual(answers([1, 2, 9, 9]), [1, 0])
         self.assertEqual(answers([2, 0]), [6, 0, 0, 0, 0, 0, 0])
+        self.assertEqual(answers([3, 0]), [3, 0, 0, 1])
+        self.assertEqual(answers([4]), [3, 0, 0, 1])
+        self.assertEqual(answers([5, 0]), [3, 1, 0, 0])
 
-    def test_several_calls_with_a_count_before_each_answer(self):
+    def test_all_six_calls_with_a_count_before_each_answer(self):
         self.assertEqual(answers(list(LINE)), ANSWERS)
+
+    def test_hours_are_not_taken_for_calls(self):
+        line = [1, 2, 9, 9] * 6 + [3, 4, 5, 4, 3, 5, 4, 5, 3, 4]
+        self.assertEqual(answers(line)[12:], [7, 0, 0, 1, 1, 1, 1, 1, 3, 1, 0, 0, 8, 0, 0, 1, 1, 1, 1, 1, 1,
+                                              3, 0, 0, 1, 3, 1, 0, 0, 3, 0, 0, 1])
+
+    def test_six_searches_in_the_largest_sky(self):
+        # In each height the wind is as strong as its number; only by the top is 9, 0 reached.
+        line = begins(4, 6, 6, 109, 100) + hour(9, 9, 10, 9, 11, 9, 12, 9) * 6
+        places = [number for east in range(10) for number in (east, 0)]
+        over_the_top = [3, 1, 2, 2, 2, 0, 0, 0]
+        three = [9, 0] + over_the_top + [9, 6] + over_the_top + [21, 10] + places
+        told = [1, 0, 1, 0, 1, 1, 1, 2, 1, 3, 1, 4, 1, 5]
+        self.assertEqual(answers(line + (nearest(6) + soonest() + reach(6)) * 2), told + three * 2)
 
     def test_longest_rows(self):
         line = [1, 10] + [9] * 10 + [2, 8] + [1] * 8 + [1, 0] + [1, 2, 9, 9]
@@ -54,8 +83,8 @@ class Answers(unittest.TestCase):
         self.assertEqual(answers(line), [1, 0, 6, 130, -7, -9, 0, 0, 0, 1, 0, 6, 19801, 0, 0, 0, 1, 2])
 
     def test_largest_numbers(self):
-        line = [0] + [LARGEST] * 5 + [1, 2, LARGEST, LARGEST] + [2, 1, LARGEST]
-        self.assertEqual(answers(line), [1, -1, 1, -1, 1, -1])
+        line = [0] + [LARGEST] * 5 + [1, 2, LARGEST, LARGEST] + [2, 1, LARGEST] + [3, LARGEST] + [5, LARGEST]
+        self.assertEqual(answers(line), [1, -1] * 5)
 
     def test_forty_calls(self):
         self.assertEqual(answers([2, 0] * 40), [6, 0, 0, 0, 0, 0, 0] * 40)

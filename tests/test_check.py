@@ -3,7 +3,7 @@
 import itertools
 import unittest
 
-from tests.lines import LARGEST, answered, begins, check, hour, last
+from tests.lines import LARGEST, answered, begins, check, flown_by_the_words, hour, last
 
 # Three heights; the wind in each is another one in each hour.
 WINDS = (
@@ -132,25 +132,6 @@ class CheckCannotBe(unittest.TestCase):
         self.assertEqual(last(*sky(3, 0, 0), check(1, 2, 0)), [-6, 1, 2])
 
 
-def flown_by_the_words(heights, sand, gas, moves):
-    """What check answers, told by the heights the flight goes through."""
-    levels = list(itertools.accumulate((move - 1 for move in moves), initial=0))
-    for number, move in enumerate(moves):
-        before = moves[:number]
-        wrongs = [
-            not 0 <= levels[number + 1] < heights,
-            move == 2 and before.count(2) >= sand,
-            move == 0 and before.count(0) >= gas,
-        ]
-        if any(wrongs):
-            return [-6, number, wrongs.index(True) + 1]
-    drifts = [WINDS[n][2 * level:2 * level + 2] for n, level in enumerate(levels[1:])]
-    east = sum(drift[0] - 9 for drift in drifts)
-    north = sum(drift[1] - 9 for drift in drifts)
-    far = (east + 3) ** 2 + (north - 2) ** 2
-    return [far, east, north, levels[-1], sand - moves.count(2), gas - moves.count(0)]
-
-
 class CheckAllSmallFlights(unittest.TestCase):
     def test_all_flights_of_up_to_three_hours(self):
         for heights, sand, gas in itertools.product((1, 2, 3), range(4), range(4)):
@@ -158,7 +139,7 @@ class CheckAllSmallFlights(unittest.TestCase):
                 for moves in itertools.product(range(3), repeat=hours):
                     with self.subTest(heights=heights, sand=sand, gas=gas, moves=moves):
                         self.assertEqual(last(*sky(heights, sand, gas, 97, 102), check(*moves)),
-                                         flown_by_the_words(heights, sand, gas, moves))
+                                         flown_by_the_words(heights, sand, gas, (-3, 2), WINDS, moves))
 
 
 if __name__ == "__main__":

@@ -71,6 +71,27 @@ class Form(unittest.TestCase):
                         self.assertIn(node.id, ALLOWED_NAMES)
                         self.assertIsInstance(node.ctx, ast.Load)
 
+    def test_a_set_stands_straight_within_sorted_or_len(self):
+        for name, tree in trees():
+            calls = [node for node in ast.walk(tree) if isinstance(node, ast.Call)]
+            sets = [node for node in calls if isinstance(node.func, ast.Name) and node.func.id == "set"]
+            walked = [node.args[0] for node in calls
+                      if isinstance(node.func, ast.Name) and node.func.id in ("sorted", "len")]
+            for node in sets:
+                with self.subTest(file=name, line=node.lineno):
+                    self.assertIn(node, walked)
+
+    def test_no_name_is_a_method_and_a_value(self):
+        methods = set()
+        values = set()
+        for name, tree in trees():
+            for node in ast.walk(tree):
+                if isinstance(node, ast.ClassDef):
+                    methods.update(inner.name for inner in node.body if isinstance(inner, ast.FunctionDef))
+                if isinstance(node, ast.Attribute) and isinstance(node.ctx, ast.Store):
+                    values.add(node.attr)
+        self.assertEqual(methods & values, set())
+
 
 if __name__ == "__main__":
     unittest.main()

@@ -3,6 +3,8 @@
 CALL_BEGINS = 0
 CALL_HOUR = 1
 CALL_CHECK = 2
+CALL_NEAREST = 3
+CALL_SOONEST = 4
 
 BAD_NUMBERS = -1
 HOURS_FULL = -5
@@ -27,19 +29,16 @@ MARK_ADDED = 100
 WIND_ADDED = 9
 
 
-class CallNotBuilt(NotImplementedError):
-    """The list holds a call whose number is none of those built."""
-
-
 class Balloon:
-    """Where the balloon is in a flight, and what it has left."""
+    """Where the balloon is behind some hours of a flight, what it has left, and the moves that led there."""
 
-    def __init__(self, sand, gas):
-        self.east = 0
-        self.north = 0
-        self.height = 0
+    def __init__(self, east, north, height, sand, gas, moves):
+        self.east = east
+        self.north = north
+        self.height = height
         self.sand = sand
         self.gas = gas
+        self.moves = moves
 
     def wrong_with(self, move, heights):
         """What would be wrong with the move, or NOTHING_WRONG."""
@@ -56,20 +55,20 @@ class Balloon:
                 return NO_GAS_LEFT
         return NOTHING_WRONG
 
-    def make_move(self, move):
-        """Make a move with which nothing is wrong."""
+    def flown_on(self, move, winds):
+        """The balloon an hour later, by a move with which nothing is wrong."""
+        # Several flights go on from one balloon, so each gets one of its own.
+        height = self.height
+        sand = self.sand
+        gas = self.gas
         if move == MOVE_UP:
-            self.height = self.height + 1
-            self.sand = self.sand - 1
+            height = height + 1
+            sand = sand - 1
         if move == MOVE_DOWN:
-            self.height = self.height - 1
-            self.gas = self.gas - 1
-
-    def be_carried(self, winds):
-        """Drift for an hour with the wind of the height where the balloon is."""
-        wind = winds[self.height]
-        self.east = self.east + wind[0]
-        self.north = self.north + wind[1]
+            height = height - 1
+            gas = gas - 1
+        wind = winds[height]
+        return Balloon(self.east + wind[0], self.north + wind[1], height, sand, gas, self.moves + [move])
 
 
 class Sky:
@@ -113,21 +112,80 @@ class Sky:
         """Fly the moves: how far it ends, where, how high, with what left; or what is wrong."""
         if len(moves) > len(self.winds_by_hour) or has_above(moves, MOVE_UP):
             return [BAD_NUMBERS]
-        flown = Balloon(self.sand, self.gas)
+        flown = self.balloon_at_first()
         for number, move in enumerate(moves):
             wrong = flown.wrong_with(move, self.heights)
             if wrong != NOTHING_WRONG:
                 return [CANNOT_BE, number, wrong]
-            flown.make_move(move)
-            flown.be_carried(self.winds_by_hour[number])
-        far = self.far_from_mark(flown.east, flown.north)
-        return [far, flown.east, flown.north, flown.height, flown.sand, flown.gas]
+            flown = flown.flown_on(move, self.winds_by_hour[number])
+        return [self.far_from_mark(flown), flown.east, flown.north, flown.height, flown.sand, flown.gas]
 
-    def far_from_mark(self, east, north):
+    def nearest(self, hours):
+        """How far the nearest landing of so many hours is, its sand left, how many are as good, the earliest."""
+        if hours > len(self.winds_by_hour):
+            return [BAD_NUMBERS]
+        best = self.nearest_landings(hours)
+        return [self.far_from_mark(best[0])] + told_of(best)
+
+    def soonest(self):
+        """In how few hours one can land on the mark, the sand left then, how many are as good, the earliest."""
+        for hours in range(len(self.winds_by_hour) + 1):
+            best = self.nearest_landings(hours)
+            if self.far_from_mark(best[0]) == 0:
+                return [hours] + told_of(best)
+        return [CANNOT_BE]
+
+    def reach(self, hours):
+        """How many places one can land at behind just so many hours, then these in their order."""
+        if hours > len(self.winds_by_hour):
+            return [BAD_NUMBERS]
+        places = sorted(set([(landed.east, landed.north) for landed in self.landings(hours)]))
+        answer = [len(places)]
+        for place in places:
+            answer.extend([place[0], place[1]])
+        return answer
+
+    def nearest_landings(self, hours):
+        """The balloons of all flights that are as good as the nearest landing, the earliest flight's first."""
+        # There is always one: a balloon may stay in height 0.
+        landed = self.landings(hours)
+        least_far = min([self.far_from_mark(balloon) for balloon in landed])
+        near = [balloon for balloon in landed if self.far_from_mark(balloon) == least_far]
+        most_sand = max([balloon.sand for balloon in near])
+        return [balloon for balloon in near if balloon.sand == most_sand]
+
+    def landings(self, hours):
+        """The balloons of all flights of so many hours that land, the earlier flights' first."""
+        flown = [self.balloon_at_first()]
+        for number in range(hours):
+            flown = all_flown_on(flown, self.heights, self.winds_by_hour[number])
+        return [balloon for balloon in flown if balloon.height == 0]
+
+    def balloon_at_first(self):
+        """The balloon ahead of the first hour."""
+        return Balloon(0, 0, 0, self.sand, self.gas, [])
+
+    def far_from_mark(self, balloon):
         """The square of the distance, so that it stays a whole number."""
-        aside = east - self.mark_east
-        along = north - self.mark_north
+        aside = balloon.east - self.mark_east
+        along = balloon.north - self.mark_north
         return aside * aside + along * along
+
+
+def all_flown_on(balloons, heights, winds):
+    """The balloons an hour later, by every move with which nothing is wrong."""
+    later = []
+    for balloon in balloons:
+        # The lower move first keeps the earlier flights ahead.
+        for move in range(MOVE_DOWN, MOVE_UP + 1):
+            if balloon.wrong_with(move, heights) == NOTHING_WRONG:
+                later.append(balloon.flown_on(move, winds))
+    return later
+
+
+def told_of(best):
+    """Of landings that are as good: the sand left, how many there are, the first one's moves."""
+    return [best[0].sand, len(best)] + best[0].moves
 
 
 def has_above(numbers, most):
@@ -150,7 +208,10 @@ def end_of_call(calls, start):
         return start + 6
     if number == CALL_HOUR or number == CALL_CHECK:
         return start + 2 + calls[start + 1]
-    raise CallNotBuilt(f"no call is built for the number {number}")
+    if number == CALL_SOONEST:
+        return start + 1
+    # nearest and reach are left, both with their hours alone.
+    return start + 2
 
 
 def answer_to(sky, call):
@@ -159,7 +220,13 @@ def answer_to(sky, call):
         return sky.begins(call[1], call[2], call[3], call[4], call[5])
     if call[0] == CALL_HOUR:
         return sky.hour(call[2:])
-    return sky.check(call[2:])
+    if call[0] == CALL_CHECK:
+        return sky.check(call[2:])
+    if call[0] == CALL_NEAREST:
+        return sky.nearest(call[1])
+    if call[0] == CALL_SOONEST:
+        return sky.soonest()
+    return sky.reach(call[1])
 
 
 def answers(calls):
